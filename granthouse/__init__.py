@@ -1,0 +1,1 @@
+"""A house with doors: grants, tickets, policies and openings."""

@@ -1,0 +1,70 @@
+"""Grants of rights: who may give, what stands, taken back and taken over.
+
+A list of grants is always in the order of their numbers.
+"""
+
+from granthouse.limits import HOUSE
+
+WITH_LEAVE = 2
+
+
+class Grant:
+    def __init__(self, number, giver, taker, right, leave):
+        self.number = number
+        self.giver = giver
+        self.taker = taker
+        self.right = right
+        self.leave = leave
+
+
+def share(grants, user, right):
+    """What the user has of the right: 2 with leave, 1 without, 0 if nothing."""
+    return max([1 + grant.leave for grant in grants if grant.taker == user and grant.right == right], default=0)
+
+
+def may_give(grants, giver, right):
+    return giver == HOUSE or share(grants, giver, right) == WITH_LEAVE
+
+
+def how_many(grants, right):
+    return len([grant for grant in grants if grant.right == right])
+
+
+def is_given(grant, giver, taker, right):
+    return grant.giver == giver and grant.taker == taker and grant.right == right
+
+
+def any_given(grants, giver, taker, right):
+    return any([is_given(grant, giver, taker, right) for grant in grants])
+
+
+def without_given(grants, giver, taker, right):
+    return [grant for grant in grants if not is_given(grant, giver, taker, right)]
+
+
+def standing(grants):
+    kept = []
+    for grant in grants:
+        if may_give(kept, grant.giver, grant.right):
+            kept.append(grant)
+    return kept
+
+
+def taken_back(grants, giver, taker, right):
+    return standing(without_given(grants, giver, taker, right))
+
+
+def taken_over(grants, giver, taker, right):
+    kept = []
+    for grant in without_given(grants, giver, taker, right):
+        if may_give(kept, grant.giver, grant.right):
+            kept.append(grant)
+        elif grant.right == right and grant.giver == taker and grant.taker != giver:
+            # No asking whether the new giver may give: what let them give to the taker
+            # stands ahead of all that the taker handed on.
+            kept.append(Grant(grant.number, giver, grant.taker, right, grant.leave))
+    return kept
+
+
+def without_user(grants, user):
+    return standing([grant for grant in grants if grant.giver != user and grant.taker != user])
