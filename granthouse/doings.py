@@ -6,12 +6,12 @@ a refusal and leaves the house as it was.
 
 from granthouse.codes import BadCode, read_code
 from granthouse.grants import (
-    WITH_LEAVE, Grant, any_given, how_many, may_give, share, taken_back, taken_over, without_user,
+    WITH_LEAVE, Grant, any_given, may_give, of_right, share, taken_back, taken_over, without_user,
 )
 from granthouse.limits import (
-    FULL, MAY_NOT, MOST_GRANTS, MOST_QUORUM, MOST_USER, NO_GRANT, UNKNOWN, WRONG, is_door, is_request, is_user,
+    FULL, MAY_NOT, MOST_GRANTS, MOST_QUORUM, MOST_USER, NO_GRANT, UNKNOWN, WRONG, is_door, is_user,
 )
-from granthouse.openings import may_open
+from granthouse.openings import is_asked_rightly, may_open
 from granthouse.tickets import MOST_CAVEATS, Ticket, are_caveats, caveats_of
 
 
@@ -24,7 +24,7 @@ def do_grant(house, number, giver, taker, right, leave):
         return WRONG
     if not may_give(house.grants, giver, right):
         return MAY_NOT
-    if how_many(house.grants, right) >= MOST_GRANTS:
+    if len(of_right(house.grants, right)) >= MOST_GRANTS:
         return FULL
     house.grants.append(Grant(number, giver, taker, right, leave))
     return number
@@ -116,7 +116,7 @@ def do_allow(house, number, user, door):
 
 
 def do_open(house, number, user, door, ticket_number, values):
-    if not (is_user(user) and is_door(door) and is_request(values)):
+    if not is_asked_rightly(user, door, values):
         return WRONG
     if ticket_number != 0 and house.tickets.get(ticket_number) is None:
         return UNKNOWN

@@ -26,8 +26,8 @@ def may_give(grants, giver, right):
     return giver == HOUSE or share(grants, giver, right) == WITH_LEAVE
 
 
-def how_many(grants, right):
-    return len([grant for grant in grants if grant.right == right])
+def of_right(grants, right):
+    return [grant for grant in grants if grant.right == right]
 
 
 def is_given(grant, giver, taker, right):
@@ -64,6 +64,25 @@ def taken_over(grants, giver, taker, right):
             # stands ahead of all that the taker handed on.
             kept.append(Grant(grant.number, giver, grant.taker, right, grant.leave))
     return kept
+
+
+def first_to(grants, user, right, leave):
+    """The first grant that gives the user the right; only one with leave will do if leave is 1."""
+    for grant in grants:
+        if grant.taker == user and grant.right == right and grant.leave >= leave:
+            return grant
+    return None
+
+
+def chain_to(grants, user, right):
+    """The chain of the right to a user who has it, the house's grant first."""
+    grant = first_to(grants, user, right, 0)
+    found = [grant]
+    # All grants stand, so each giver's first one with leave is ahead of what they gave: this comes to the house.
+    while grant.giver != HOUSE:
+        grant = first_to(grants, grant.giver, right, 1)
+        found.append(grant)
+    return list(reversed(found))
 
 
 def without_user(grants, user):

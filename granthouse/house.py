@@ -1,11 +1,10 @@
-"""The house as it is now."""
+"""The house as it is at some moment; what has been done is kept in a log of its own."""
 
 from granthouse.limits import MOST_DOOR
 
 
 class House:
     def __init__(self):
-        self.done = 0
         self.grants = []
         self.tickets = {}
         self.policies = {}

@@ -1,12 +1,21 @@
 """When a user may open a door."""
 
 from granthouse.grants import WITH_LEAVE, share
+from granthouse.limits import is_door, is_request, is_user
 from granthouse.policies import PERMIT, decide
 from granthouse.tickets import all_hold
 
 
+def is_asked_rightly(user, door, values):
+    return is_user(user) and is_door(door) and is_request(values)
+
+
+def maker_has_right(house, ticket):
+    return share(house.grants, ticket.maker, ticket.door) > 0
+
+
 def is_good(house, ticket, values):
-    return share(house.grants, ticket.maker, ticket.door) > 0 and all_hold(ticket.caveats, values)
+    return maker_has_right(house, ticket) and all_hold(ticket.caveats, values)
 
 
 def has_entry(house, user, door, ticket_number, values):

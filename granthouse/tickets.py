@@ -20,6 +20,10 @@ class Ticket:
         self.caveats = caveats
 
 
+def held_by(tickets, user):
+    return [ticket for ticket in tickets.values() if ticket.holder == user]
+
+
 def caveats_of(row):
     return [(row[at], row[at + 1], row[at + 2]) for at in range(0, len(row), CAVEAT_NUMBERS)]
 

@@ -47,11 +47,67 @@ def opening(u, r, n=0, values=REQUEST):
     return [9, u, r, n, len(values)] + list(values)
 
 
+def may(u, r, n=0, values=REQUEST):
+    return [10, u, r, n, len(values)] + list(values)
+
+
+def was(m, u, r, n=0, values=REQUEST):
+    return [11, m, u, r, n, len(values)] + list(values)
+
+
+def hang(n):
+    return [12, n]
+
+
+def opened():
+    return [13]
+
+
+def grants(r):
+    return [14, r]
+
+
+def tickets(u):
+    return [15, u]
+
+
+def chain(u, r):
+    return [16, u, r]
+
+
+def allowers(u, r):
+    return [17, u, r]
+
+
+def length():
+    return [18]
+
+
 def whole_line(calls):
     line = []
     for call in calls:
         line.extend(call)
     return line
+
+
+def told(*calls):
+    """All the numbers that each of these calls answers, a list for each."""
+    given = answers(whole_line(calls))
+    each = []
+    at = 0
+    while at < len(given):
+        many = given[at]
+        each.append(given[at + 1:at + 1 + many])
+        if many < 1 or len(each[-1]) != many:
+            raise AssertionError(f"not as many numbers as it says: {given}")
+        at += 1 + many
+    if len(each) != len(calls):
+        raise AssertionError(f"not one answer for each call: {given}")
+    return each
+
+
+def last_told(*calls):
+    return told(*calls)[-1]
 
 
 def said(*calls):

@@ -34,6 +34,28 @@ BANNED_WORDS = re.compile(
     r"\b(type|typing|typing_extensions|enum|Enum|IntEnum|StrEnum|Flag|IntFlag|Generic|Protocol|ABC|ABCMeta|namedtuple"
     r"|NamedTuple|TypedDict|TYPE_CHECKING|abstractmethod)\b|dataclass|overload|contextmanager")
 
+KEYWORDS = {
+    "sorted": ("key", "reverse"), "min": ("key", "default"), "max": ("key", "default"), "sum": ("start",),
+    "enumerate": ("start",), "zip": ("strict",),
+}
+WALKED = ("zip", "enumerate", "reversed", "range", "items", "keys", "values")
+WALKERS = ("list", "tuple", "dict", "sorted", "sum", "any", "all", "enumerate", "zip", "min", "max")
+
+
+def parents_in(tree):
+    return {child: node for node in ast.walk(tree) for child in ast.iter_child_nodes(node)}
+
+
+def called_name(node):
+    """The name of what is called here, as a name or as a method; nothing if this is no call."""
+    if not isinstance(node, ast.Call):
+        return ""
+    return node.func.attr if isinstance(node.func, ast.Attribute) else node.func.id
+
+
+def is_text(node):
+    return isinstance(node, ast.Expr) and isinstance(node.value, ast.Constant)
+
 
 def names_in(tree):
     for node in ast.walk(tree):
@@ -138,6 +160,90 @@ class Language(unittest.TestCase):
                    if isinstance(node, ast.Assign)]
             top += [node.name for node in tree.body if isinstance(node, (ast.FunctionDef, ast.ClassDef))]
             self.assertEqual(len(top), len(set(top)))
+
+    def test_the_top_of_a_file(self):
+        for path, text, tree in self.each():
+            self.assertTrue(is_text(tree.body[0]))
+            for node in tree.body[1:]:
+                self.assertIsInstance(node, (ast.ImportFrom, ast.FunctionDef, ast.ClassDef, ast.Assign))
+                if isinstance(node, ast.Assign):
+                    # Tuples alone, of plain values: so nothing at the top can be changed.
+                    self.assertIsInstance(node.targets[0], ast.Name)
+                    for part in ast.walk(node.value):
+                        self.assertIsInstance(part, (ast.Constant, ast.Tuple, ast.Load, ast.UnaryOp, ast.USub))
+
+    def test_functions_and_classes(self):
+        for path, text, tree in self.each():
+            classes = [node.name for node in ast.walk(tree) if isinstance(node, ast.ClassDef)]
+            for node in ast.walk(tree):
+                if isinstance(node, ast.arguments):
+                    self.assertEqual((node.vararg, node.kwarg, node.kwonlyargs, node.posonlyargs), (None, None, [], []))
+                    self.assertEqual([part.annotation for part in node.args if part.annotation], [])
+                if isinstance(node, ast.FunctionDef):
+                    self.assertIsNone(node.returns)
+                if isinstance(node, ast.ClassDef):
+                    self.assertIn(node, tree.body)
+                    self.assertLessEqual(len(node.bases), 1)
+                    self.assertEqual(node.keywords, [])
+                    methods = [part.name for part in node.body if not is_text(part)]
+                    self.assertEqual(len(methods), len(set(methods)))
+                if isinstance(node, ast.arg):
+                    self.assertNotIn(node.arg, classes)
+                if isinstance(node, ast.Name) and isinstance(node.ctx, ast.Store):
+                    self.assertNotIn(node.id, classes)
+
+    def test_errors_are_own_ones_made_on_the_spot(self):
+        for path, text, tree in self.each():
+            for node in ast.walk(tree):
+                if isinstance(node, ast.ExceptHandler):
+                    self.assertIsInstance(node.type, ast.Name)
+                    self.assertNotIn(node.type.id, dir(builtins))
+                if isinstance(node, ast.Raise):
+                    self.assertNotIn(called_name(node.exc), ["", *dir(builtins)])
+
+    def test_comparisons_by_is(self):
+        for path, text, tree in self.each():
+            for node in ast.walk(tree):
+                if isinstance(node, ast.Compare):
+                    for sign, right in zip(node.ops, node.comparators):
+                        if isinstance(sign, (ast.Is, ast.IsNot)):
+                            self.assertIn(getattr(right, "value", ""), (None, True, False))
+
+    def test_keywords(self):
+        for path, text, tree in self.each():
+            for node in ast.walk(tree):
+                if isinstance(node, ast.Call):
+                    for keyword in node.keywords:
+                        self.assertIn(keyword.arg, KEYWORDS.get(called_name(node), ()))
+
+    def test_what_is_walked_is_walked_at_once(self):
+        for path, text, tree in self.each():
+            parents = parents_in(tree)
+            for node in ast.walk(tree):
+                name, parent = called_name(node), parents.get(node)
+                if name in WALKED:
+                    walked = isinstance(parent, (ast.For, ast.comprehension)) and parent.iter is node
+                    handed = called_name(parent) in WALKERS and parent.args[0] is node
+                    self.assertTrue(walked or handed, name)
+                if name in ("set", "frozenset"):
+                    self.assertIn(called_name(parent), ("len", "sorted"))
+
+    def test_what_is_walked_is_not_changed_meanwhile(self):
+        for path, text, tree in self.each():
+            for node in ast.walk(tree):
+                if isinstance(node, ast.For):
+                    walked = {ast.dump(part) for part in ast.walk(node.iter)}
+                    for part in ast.walk(node):
+                        if called_name(part) in ("append", "extend", "insert", "pop", "remove", "clear", "update"):
+                            self.assertNotIn(ast.dump(part.func.value), walked)
+
+    def test_numbers_and_texts(self):
+        for path, text, tree in self.each():
+            for node in ast.walk(tree):
+                if isinstance(node, ast.Constant) and isinstance(node.value, str):
+                    self.assertNotIn("%", node.value)
+            self.assertNotIn("\\", text)
+            self.assertNotIn("chr", list(names_in(tree)))
 
     def test_methods_and_values_of_objects(self):
         methods, values, called = set(), set(), set()
